@@ -1,0 +1,1 @@
+"""Hitch: a language for tangles and links."""
