@@ -3,15 +3,19 @@ import unittest
 
 import tiedtangles.tangles
 from helper import (
-    ask, bytes_of, colorings_with, components, count_colorings, events, joined, linking, load, load_bytes,
+    apply_move, ask, bytes_of, colorings_with, compare, compare_bytes, components, count_colorings, events, joined,
+    linking, load, load_bytes, moves, reset, samples, simplify, text_for,
 )
 from tiedtangles.tangles import answers
 
 CALLS = (
     events(), load("tie t 3/over 1/cup 2/under 2/cap 3/end"), events(), components(), linking(0, 1),
     linking(0, 9), count_colorings(3), count_colorings(99), colorings_with(4, [1, 2, 3]),
-    colorings_with(4, [1, 2]), load("tie u"), load_bytes([0]), events(),
+    colorings_with(4, [1, 2]), load("tie u"), load_bytes([0]), events(), moves(), apply_move(0), apply_move(-1),
+    simplify(2), simplify(5), compare("tie u 3/end"), compare("tie u"), compare_bytes([0]), reset(), events(),
 )
+# What a whole number that is handed in may be at most, and at least.
+MOST = 2 ** 53
 
 
 class Interface(unittest.TestCase):
@@ -39,10 +43,41 @@ class Interface(unittest.TestCase):
             self.assertEqual([number for number in part if number < 0], part if part[0] < 0 else [])
             self.assertTrue(part[0] >= 0 or len(part) == 1)
 
+    def test_the_flat_form_of_the_later_calls(self):
+        text = bytes_of("tie t 2/over 1/under 1/end")
+        calls = [1, len(text)] + text + [0, 7, 0, 0, 9, 1, 1, 0, 8, 1, 0, 0, 11, len(text)] + text + [0, 10, 0, 0]
+        self.assertEqual(answers(calls), [4, 2, 2, 2, 2, 3, 1, 0, 1, 3, 0, 1, 2, 2, 0, 0, 1, 0, 1, 2])
+
     def test_errors_without_a_text(self):
-        calls = (events(), components(), linking(0, 0), count_colorings(0), colorings_with(0, []))
-        self.assertEqual(ask(*calls), [[-7]] * 5)
-        self.assertEqual(ask(load("tie t 2"), *calls), [[-216]] + [[-7]] * 5)
+        calls = (
+            events(), components(), linking(0, 0), count_colorings(0), colorings_with(0, []), moves(),
+            apply_move(0), simplify(9), reset(), compare("tie t 1/end"), compare(""), compare_bytes([0]),
+        )
+        self.assertEqual(ask(*calls), [[-7]] * 12)
+        self.assertEqual(ask(load("tie t 2"), *calls), [[-216]] + [[-7]] * 12)
+
+    def test_the_largest_and_the_smallest_numbers(self):
+        for number in (MOST, -MOST):
+            calls = (
+                load_bytes([number]), linking(number, 0), linking(0, number), count_colorings(number),
+                colorings_with(number, []), colorings_with(3, [number]), apply_move(number), simplify(number),
+                compare_bytes([number]), events(),
+            )
+            refused = [[-2], [-2], [-2], [-2], [-2], [-2], [-3], [-2], [-2], [0]]
+            self.assertEqual(ask(load("tie t 1/end"), *calls)[1:], refused)
+            self.assertEqual(ask(*calls), [[-2]] + [[-7]] * 9)
+
+    def test_longest_lists(self):
+        self.assertEqual(ask(load_bytes([32] * 2100), load("tie t 1/end"), compare_bytes([32] * 2100)), [
+            [-2], [1, 1, 0, 0], [-2],
+        ])
+        self.assertEqual(ask(load("tie t 1/end"), colorings_with(2, [0] * 20), colorings_with(2, []))[1:], [[-2]] * 2)
+
+    def test_no_call_raises(self):
+        calls = CALLS[:1] + CALLS[2:]
+        for top, word in samples(25, 25, 12):
+            for call in calls:
+                self.assertEqual(len(ask(load(text_for(top, word)), call, apply_move(0), call)), 4)
 
     def test_the_list_handed_in_stays_as_it_is(self):
         calls = joined(CALLS)

@@ -4,20 +4,9 @@ import itertools
 import unittest
 
 from helper import (
-    after, colorings_with, components, count_colorings, events, linking, lines_for, load, random_word, ask,
+    CAP, CUP, GROWTH, OVER, UNDER, after, ask, colorings_with, components, count_colorings, events, linking, lines_for,
+    load, parts_of, samples, text_for,
 )
-
-OVER, UNDER, CUP, CAP = range(4)
-
-
-def samples(amount, length, most):
-    for seed in range(amount):
-        top = seed % (most + 1)
-        yield top, random_word(seed, top, 1 + seed % length, most)
-
-
-def shown(top, word):
-    return f"tie t {top}{lines_for(word)}/end"
 
 
 def row_below(top, word, colors, choices, p):
@@ -55,7 +44,7 @@ def pieces(top, word):
     """
     rows = [top]
     for kind, strand in word:
-        rows.append(rows[-1] + (0, 0, 2, -2)[kind])
+        rows.append(rows[-1] + GROWTH[kind])
     beginnings = [(0, place, 1) for place in range(top)]
     beginnings += [(len(word), place, -1) for place in range(rows[-1])]
     # Behind the ends, so that what is still left at a cup is closed.
@@ -102,40 +91,30 @@ class PlainerWays(unittest.TestCase):
     def test_events(self):
         for top, word in samples(60, 30, 12):
             flat = [number for event in word for number in event]
-            self.assertEqual(after(shown(top, word), events())[0], [len(word)] + flat)
+            self.assertEqual(after(text_for(top, word), events())[0], [len(word)] + flat)
 
     def test_what_load_answers(self):
         for top, word in samples(60, 30, 12):
-            bottom = top + sum((0, 0, 2, -2)[kind] for kind, strand in word)
+            bottom = top + sum(GROWTH[kind] for kind, strand in word)
             crossings = len([kind for kind, strand in word if kind in (OVER, UNDER)])
-            self.assertEqual(ask(load(shown(top, word))), [[top, bottom, len(word), crossings]])
+            self.assertEqual(ask(load(text_for(top, word))), [[top, bottom, len(word), crossings]])
 
     def test_ends_that_belong_together(self):
         for top, word in samples(150, 25, 9):
-            answer = after(shown(top, word), components())[0]
-            mine = self.listed(answer)
+            answer = after(text_for(top, word), components())[0]
+            mine = parts_of(answer)
             self.assertEqual(sorted(ends for number, ends in mine), sorted(ends for ends, visits in pieces(top, word)))
             self.assertEqual(sorted(number for number, ends in mine), [number for number, ends in mine])
             for number, ends in mine:
                 if ends and ends[0] < top:
                     self.assertEqual(number, ends[0])
 
-    def listed(self, answer):
-        found = []
-        start = 1
-        for component in range(answer[0]):
-            behind = start + 2 + answer[start + 1]
-            found.append((answer[start], answer[start + 2:behind]))
-            start = behind
-        self.assertEqual(start, len(answer))
-        return found
-
     def test_linkings(self):
         for top, word in samples(150, 25, 8):
-            numbers = [number for number, ends in self.listed(after(shown(top, word), components())[0])]
+            numbers = [number for number, ends in parts_of(after(text_for(top, word), components())[0])]
             mine = []
             for pair in itertools.combinations(numbers, 2):
-                one, other = after(shown(top, word), linking(*pair), linking(*reversed(pair)))
+                one, other = after(text_for(top, word), linking(*pair), linking(*reversed(pair)))
                 self.assertEqual(one, other)
                 mine.extend(one)
             plainer = []
@@ -146,7 +125,7 @@ class PlainerWays(unittest.TestCase):
                         same = visits1[index][0] == visits2[index][0]
                         total += 1 if same == (word[index][0] == OVER) else -1
                 plainer.append(abs(total))
-            self.assertEqual(sorted(mine), sorted(plainer), shown(top, word))
+            self.assertEqual(sorted(mine), sorted(plainer), text_for(top, word))
 
     def test_count_colorings(self):
         for top, word in samples(80, 12, 5):
@@ -156,7 +135,7 @@ class PlainerWays(unittest.TestCase):
                     plainer = 0
                     for colors in itertools.product(range(p), repeat=top):
                         plainer += len(list(rows_below(top, word, colors, p)))
-                    self.assertEqual(after(shown(top, word), count_colorings(p)), [[plainer]])
+                    self.assertEqual(after(text_for(top, word), count_colorings(p)), [[plainer]])
 
     def test_colorings_with(self):
         for top, word in samples(80, 16, 6):
@@ -166,7 +145,7 @@ class PlainerWays(unittest.TestCase):
                 if p ** cups <= 300:
                     rows = list(rows_below(top, word, colors, p))
                     expected = [len(rows)] + (rows[0] if rows else [])
-                    self.assertEqual(after(shown(top, word), colorings_with(p, colors)), [expected])
+                    self.assertEqual(after(text_for(top, word), colorings_with(p, colors)), [expected])
 
 
 class Requirements(unittest.TestCase):
@@ -180,12 +159,12 @@ class Requirements(unittest.TestCase):
     def test_6_all_strands_of_one_color(self):
         for top, word in samples(80, 20, 6):
             cups = len([kind for kind, strand in word if kind == CUP])
-            bottom = top + sum((0, 0, 2, -2)[kind] for kind, strand in word)
+            bottom = top + sum(GROWTH[kind] for kind, strand in word)
             for p in range(2, 10):
                 if p ** cups <= 3000:
-                    lowest = after(shown(top, word), colorings_with(p, [0] * top))[0]
+                    lowest = after(text_for(top, word), colorings_with(p, [0] * top))[0]
                     self.assertEqual(lowest[1:], [0] * bottom)
                     for color in range(p):
-                        counted = after(shown(top, word), colorings_with(p, [color] * top))[0]
+                        counted = after(text_for(top, word), colorings_with(p, [color] * top))[0]
                         self.assertGreaterEqual(counted[0], 1)
                         self.assertEqual(len(counted), 1 + bottom)

@@ -1,6 +1,7 @@
 """The numbers that stand for errors, in answers and in texts."""
 
 OUT_OF_RANGE = -2
+NO_SUCH_MOVE = -3
 NO_TEXT = -7
 TOO_LARGE = -8
 

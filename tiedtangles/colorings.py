@@ -1,6 +1,6 @@
 """Colorings of a word with p colors."""
 
-from tiedtangles.words import CAP, CUP, OVER
+from tiedtangles.words import CAP, CUP, OVER, count_cups
 
 FEWEST_COLORS = 2
 MOST_COLORS = 9
@@ -88,3 +88,14 @@ def is_too_large(p, choices):
     for choice in range(choices):
         number *= p
     return number > MOST_COLORINGS
+
+
+def is_countable(tangle, p):
+    return not is_too_large(p, tangle.top + count_cups(tangle.word))
+
+
+def number_of_colorings(tangle, p):
+    colorings = Colorings(p)
+    colorings.choose_top(tangle.top)
+    colorings.follow_word(tangle.word)
+    return colorings.number

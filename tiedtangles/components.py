@@ -77,3 +77,15 @@ class Tracing:
             if sorted([self.component_of[first], self.component_of[second]]) == wanted:
                 total += sign * self.direction_of[first] * self.direction_of[second]
         return abs(total)
+
+    def joined_ends(self):
+        """The ends of each component, with [] for each closed one, whatever the components' numbers."""
+        return sorted([self.ends_of(component) for component in self.component_numbers()])
+
+    def linkings(self):
+        """The sorted list of the linkings of all pairs of components."""
+        numbers = self.component_numbers()
+        found = []
+        for place, component in enumerate(numbers):
+            found.extend([self.linking_of(component, other) for other in numbers[place + 1:]])
+        return sorted(found)
